@@ -1,0 +1,1 @@
+"""Light through lenses, told to the last bit."""

@@ -39,7 +39,11 @@ def add(left, right):
 
 
 def subtract(left, right):
-    return add(left, right ^ SIGN_BIT)
+    return add(left, negative(right))
+
+
+def negative(finite):
+    return finite ^ SIGN_BIT
 
 
 def multiply(left, right):

@@ -20,6 +20,8 @@ NOT_FINITE = [
     2 * SIGN - 1,
 ]
 
+NOT_ABOVE_ZERO = [0, SIGN, SIGN | LEAST, SIGN | LEAST_NORMAL, SIGN | ONE, SIGN | GREATEST]
+
 
 def bits_of(number):
     return struct.unpack("<Q", struct.pack("<d", number))[0]

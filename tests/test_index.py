@@ -1,7 +1,5 @@
 """Promise 1: index."""
 
-import contextlib
-import io
 import math
 import unittest
 from fractions import Fraction
@@ -11,6 +9,7 @@ from tests.bits import (
     GREATEST, LEAST, LEAST_NORMAL, NOT_FINITE, ONE, SIGN,
     bits_of, double_of, is_finite, mixed_words, negative, power,
 )
+from tests.calls import EachCallByItself
 
 CROWN = [1.03961212, 0.231792344, 1.01046945, 0.00600069867, 0.0200179144, 103.560653]
 FLINT = [1.73759695, 0.313747346, 1.89878101, 0.013188707, 0.0623068142, 155.23629]
@@ -315,47 +314,16 @@ class NoFiniteResult(unittest.TestCase):
         self.assertEqual(index(ONE, [negative(half), negative(half), 0, 0, 0, 0]), [-4])
 
 
-class EachCallByItself(unittest.TestCase):
+class ByItself(EachCallByItself, unittest.TestCase):
+    CALL = staticmethod(index)
+    NAMES = ["wave", "glass"]
+    LENGTHS = {0: 2}
     CALLS = [
-        (bits_of(0.5875618), [bits_of(number) for number in CROWN]),
-        (SIGN, [bits_of(number) for number in CROWN]),
-        (ONE, [ONE] * 6),
-        (ONE, [ONE, ONE, ONE, ONE, ONE, NOT_FINITE[0]]),
+        ((bits_of(0.5875618), [bits_of(number) for number in CROWN]), 0),
+        ((SIGN, [bits_of(number) for number in CROWN]), -3),
+        ((ONE, [ONE] * 6), -4),
+        ((ONE, [ONE, ONE, ONE, ONE, ONE, NOT_FINITE[0]]), -3),
     ]
-
-    def test_glass_is_not_changed(self):
-        for wave, glass in self.CALLS:
-            handed = list(glass)
-            index(wave, handed)
-            self.assertEqual(handed, glass)
-
-    def test_the_same_again(self):
-        first = [index(wave, list(glass)) for wave, glass in self.CALLS]
-        again = [index(wave, list(glass)) for wave, glass in reversed(self.CALLS)]
-        self.assertEqual(first, again[::-1])
-        self.assertEqual([told[0] for told in first], [0, -3, -4, -3])
-
-    def test_what_is_given_back_is_not_kept(self):
-        for wave, glass in self.CALLS:
-            told = index(wave, glass)
-            before = list(told)
-            told.append(7)
-            self.assertEqual(index(wave, glass), before)
-
-    def test_kinds(self):
-        for wave, glass in self.CALLS:
-            told = index(wave, glass)
-            self.assertIs(type(told), list)
-            self.assertEqual([type(number) for number in told], [int] * (2 if told[0] == 0 else 1))
-
-    def test_names_of_the_arguments(self):
-        self.assertEqual(index(wave=ONE, glass=[0] * 6), [0, ONE])
-
-    def test_nothing_is_printed(self):
-        with contextlib.redirect_stdout(io.StringIO()) as printed, contextlib.redirect_stderr(printed):
-            for wave, glass in self.CALLS:
-                index(wave, glass)
-        self.assertEqual(printed.getvalue(), "")
 
 
 if __name__ == "__main__":

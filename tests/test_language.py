@@ -91,7 +91,7 @@ class Form(unittest.TestCase):
         for path, tree in trees():
             bound = bound_names(tree)
             self.assertEqual(bound & set(dir(builtins)), set(), path)
-            self.assertEqual([name for name in bound if name.startswith("_")], [], path)
+            self.assertEqual([name for name in bound if name.startswith("_") and name != "__init__"], [], path)
             used = {node.id for node in ast.walk(tree) if isinstance(node, ast.Name)}
             self.assertEqual(used - bound - PYTHONS_OWN, set(), path)
 

@@ -1,0 +1,94 @@
+"""The calls once more, as the document words them, with the machine's own doubles: what the tests set answers against.
+
+A Double takes one step at a time and refuses a step without a finite result. Nothing of the program is used here.
+"""
+
+import math
+
+from tests.bits import bits_of, double_of
+
+
+class NotFinite(Exception):
+    pass
+
+
+class Double:
+    def __init__(self, number):
+        if not math.isfinite(number):
+            raise NotFinite()
+        self.number = float(number)
+
+    def __add__(self, other):
+        return Double(self.number + other.number)
+
+    def __sub__(self, other):
+        return Double(self.number - other.number)
+
+    def __mul__(self, other):
+        return Double(self.number * other.number)
+
+    def __truediv__(self, other):
+        if other.number == 0:
+            raise NotFinite()
+        return Double(self.number / other.number)
+
+    def __neg__(self):
+        return Double(-self.number)
+
+    def __lt__(self, other):
+        return self.number < other.number
+
+    def root(self):
+        if self.number < 0:
+            raise NotFinite()
+        return Double(math.sqrt(self.number))
+
+    def bits(self):
+        return bits_of(self.number)
+
+
+ZERO, ONE, TWO, THREE = (Double(number) for number in (0, 1, 2, 3))
+
+
+def doubles(words):
+    return [Double(double_of(word)) for word in words]
+
+
+def told(numbers):
+    return [number.bits() for number in numbers]
+
+
+def rows(surfaces):
+    numbers = doubles(surfaces)
+    return [numbers[start:start + 4] for start in range(0, len(numbers), 4)]
+
+
+def refused(outer, surfaces, others=(), counts=()):
+    if not surfaces or not all(1 <= count <= 64 for count in counts):
+        return [-2]
+    numbers = [double_of(word) for word in [outer, *surfaces, *others]]
+    above = [numbers[0], *numbers[3:1 + len(surfaces):4], *numbers[4:1 + len(surfaces):4]]
+    if not all(map(math.isfinite, numbers)) or min(above) <= 0:
+        return [-3]
+    return []
+
+
+def near(outer, surfaces):
+    if refused(outer, surfaces):
+        return refused(outer, surfaces)
+    try:
+        return [0] + told(near_doubles(Double(double_of(outer)), rows(surfaces)))
+    except NotFinite:
+        return [-4]
+
+
+def near_doubles(n, surfaces):
+    y, p = ONE, ZERO
+    for c, gap, index, _ in surfaces[:-1]:
+        p = p - y * (c * (index - n))
+        y = y + gap * (p / index)
+        n = index
+    c, gap, index, _ = surfaces[-1]
+    p = p - y * (c * (index - n))
+    u = p / index
+    return [-ONE / u, -y / u, y + gap * u]

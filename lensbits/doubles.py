@@ -28,6 +28,19 @@ def is_above_zero(finite):
     return 0 < finite < SIGN_BIT
 
 
+def is_below_zero(finite):
+    return finite > SIGN_BIT
+
+
+def is_above(left, right):
+    return in_order(left) > in_order(right)
+
+
+def in_order(finite):
+    # Both zeros become 0, so that neither is above the other.
+    return finite if finite < SIGN_BIT else SIGN_BIT - finite
+
+
 def add(left, right):
     exponent = min(exponent_of(left), exponent_of(right))
     total = scaled(left, exponent) + scaled(right, exponent)

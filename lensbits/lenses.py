@@ -1,17 +1,33 @@
 """The calls. Doubles are handed in and answered by their 64 bits."""
 
 from lensbits.doubles import (
-    NoFiniteResult, add, divide, is_above_zero, is_finite, multiply, negative, root, subtract,
+    NoFiniteResult, add, divide, is_above, is_above_zero, is_below_zero, is_finite, multiply, negative, root, subtract,
 )
 
 HOW_MANY = -2
 IMPOSSIBLE_NUMBER = -3
 NO_FINITE_RESULT = -4
+MISSED = -5
+THROWN_BACK = -6
+STOPPED = -7
 
 MOST_SURFACES = 64
 NUMBERS_OF_A_SURFACE = 4
 
 ONE = 0x3FF0000000000000
+TWO = 0x4000000000000000
+
+
+class Missed(ArithmeticError):
+    pass
+
+
+class ThrownBack(ArithmeticError):
+    pass
+
+
+class Stopped(ArithmeticError):
+    pass
 
 
 class Surface:
@@ -20,6 +36,20 @@ class Surface:
         self.gap = numbers[1]
         self.behind = numbers[2]
         self.half = numbers[3]
+
+
+class Light:
+    """A ray on its way: its place from the last surface's middle, its way (L, M, N), its path, and the index around."""
+
+    def __init__(self, around, beam):
+        self.x = beam[0]
+        self.y = beam[1]
+        self.z = beam[2]
+        self.way_x = beam[3]
+        self.way_y = beam[4]
+        self.way_z = beam[5]
+        self.path = 0
+        self.around = around
 
 
 def index(wave, glass):
@@ -39,6 +69,22 @@ def near(outer, surfaces):
         return [0] + near_the_axis(outer, in_a_row(surfaces))
     except NoFiniteResult:
         return [NO_FINITE_RESULT]
+
+
+def ray(outer, surfaces, beam):
+    refusal = refusal_of_input(outer, surfaces, beam)
+    if refusal != 0:
+        return [refusal]
+    row = in_a_row(surfaces)
+    light = Light(outer, beam)
+    failure = failure_on_the_way(light, row)
+    if failure != []:
+        return failure
+    try:
+        end = end_of(light, row[-1].gap)
+    except NoFiniteResult:
+        return [NO_FINITE_RESULT, len(row)]
+    return [0, end[0], end[1], light.way_x, light.way_y, light.way_z, end[2]]
 
 
 def refusal_of_input(outer, surfaces, others):
@@ -76,15 +122,90 @@ def index_of_glass(wave, glass):
 
 def near_the_axis(outer, row):
     height = ONE
-    bend = 0
+    turned = 0
     before = outer
     slope = 0
     for place, surface in enumerate(row):
         if place > 0:
             height = add(height, multiply(row[place - 1].gap, slope))
         power = multiply(surface.curve, subtract(surface.behind, before))
-        bend = subtract(bend, multiply(height, power))
-        slope = divide(bend, surface.behind)
+        turned = subtract(turned, multiply(height, power))
+        slope = divide(turned, surface.behind)
         before = surface.behind
     end = add(height, multiply(row[-1].gap, slope))
     return [divide(negative(ONE), slope), divide(negative(height), slope), end]
+
+
+def failure_on_the_way(light, row):
+    for place, surface in enumerate(row):
+        try:
+            if place > 0:
+                light.z = subtract(light.z, row[place - 1].gap)
+            go_through(light, surface)
+        except NoFiniteResult:
+            return [NO_FINITE_RESULT, place]
+        except Missed:
+            return [MISSED, place]
+        except ThrownBack:
+            return [THROWN_BACK, place]
+        except Stopped:
+            return [STOPPED, place]
+    return []
+
+
+def go_through(light, surface):
+    offset = offset_from(light, surface.curve)
+    slant = slant_to(light, surface.curve)
+    square = subtract(multiply(slant, slant), multiply(surface.curve, offset))
+    if is_below_zero(square):
+        raise Missed()
+    cosine = root(square)
+    length = divide(offset, add(slant, cosine))
+    move(light, length)
+    if is_above(square_sum(light.x, light.y), multiply(surface.half, surface.half)):
+        raise Stopped()
+    bend(light, surface, square, cosine)
+    light.path = add(light.path, multiply(light.around, length))
+    light.around = surface.behind
+
+
+def offset_from(light, curve):
+    squares = add(square_sum(light.x, light.y), multiply(light.z, light.z))
+    return subtract(multiply(curve, squares), multiply(TWO, light.z))
+
+
+def slant_to(light, curve):
+    across = add(multiply(light.x, light.way_x), multiply(light.y, light.way_y))
+    total = add(across, multiply(light.z, light.way_z))
+    return subtract(light.way_z, multiply(curve, total))
+
+
+def square_sum(left, right):
+    return add(multiply(left, left), multiply(right, right))
+
+
+def move(light, length):
+    light.x = add(light.x, multiply(length, light.way_x))
+    light.y = add(light.y, multiply(length, light.way_y))
+    light.z = add(light.z, multiply(length, light.way_z))
+
+
+def bend(light, surface, square, cosine):
+    ratio = divide(light.around, surface.behind)
+    left = subtract(ONE, multiply(multiply(ratio, ratio), subtract(ONE, square)))
+    if is_below_zero(left):
+        raise ThrownBack()
+    turn = subtract(root(left), multiply(ratio, cosine))
+    curved = multiply(turn, surface.curve)
+    light.way_x = subtract(multiply(ratio, light.way_x), multiply(curved, light.x))
+    light.way_y = subtract(multiply(ratio, light.way_y), multiply(curved, light.y))
+    light.way_z = add(subtract(multiply(ratio, light.way_z), multiply(curved, light.z)), turn)
+
+
+def end_of(light, gap):
+    # The light itself is left as it is, so that its end can be asked for with another gap.
+    z = subtract(light.z, gap)
+    length = divide(negative(z), light.way_z)
+    x = add(light.x, multiply(length, light.way_x))
+    y = add(light.y, multiply(length, light.way_y))
+    return (x, y, add(light.path, multiply(light.around, length)))

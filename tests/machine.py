@@ -92,3 +92,58 @@ def near_doubles(n, surfaces):
     p = p - y * (c * (index - n))
     u = p / index
     return [-ONE / u, -y / u, y + gap * u]
+
+
+class Failed(Exception):
+    def __init__(self, how, place):
+        super().__init__()
+        self.how = how
+        self.place = place
+
+
+def ray(outer, surfaces, beam):
+    if refused(outer, surfaces, beam):
+        return refused(outer, surfaces, beam)
+    try:
+        return [0] + told(ray_doubles(Double(double_of(outer)), rows(surfaces), doubles(beam)))
+    except Failed as failed:
+        return [failed.how, failed.place]
+
+
+def ray_doubles(n, surfaces, beam):
+    x, y, z, L, M, N = beam
+    path = ZERO
+    place = 0
+    try:
+        for place, (c, gap, index, half) in enumerate(surfaces):
+            if place > 0:
+                z = z - surfaces[place - 1][1]
+            F = c * ((x * x + y * y) + z * z) - TWO * z
+            G = N - c * ((x * L + y * M) + z * N)
+            D = G * G - c * F
+            if D < ZERO:
+                raise Failed(-5, place)
+            r = D.root()
+            s = F / (G + r)
+            x = x + s * L
+            y = y + s * M
+            z = z + s * N
+            if half * half < x * x + y * y:
+                raise Failed(-7, place)
+            u = n / index
+            R = ONE - (u * u) * (ONE - D)
+            if R < ZERO:
+                raise Failed(-6, place)
+            g = R.root() - u * r
+            h = g * c
+            L = u * L - h * x
+            M = u * M - h * y
+            N = (u * N - h * z) + g
+            path = path + n * s
+            n = index
+        place = len(surfaces)
+        z = z - surfaces[-1][1]
+        s = -z / N
+        return [x + s * L, y + s * M, L, M, N, path + n * s]
+    except NotFinite:
+        raise Failed(-4, place) from None

@@ -204,6 +204,23 @@ class Asked(unittest.TestCase):
         for number in (0, SIGN, negative(LEAST), negative(GREATEST)):
             self.assertFalse(doubles.is_above_zero(number))
 
+    def test_is_below_zero(self):
+        self.assertTrue(doubles.is_below_zero(negative(LEAST)))
+        self.assertTrue(doubles.is_below_zero(negative(GREATEST)))
+        for number in (0, SIGN, LEAST, GREATEST):
+            self.assertFalse(doubles.is_below_zero(number))
+
+    def test_is_above(self):
+        signed = EDGES + [negative(edge) for edge in EDGES]
+        for left in signed:
+            for right in signed:
+                self.assertEqual(doubles.is_above(left, right), double_of(left) > double_of(right))
+
+    def test_negative(self):
+        for edge in EDGES:
+            self.assertEqual(doubles.negative(edge), edge + SIGN)
+            self.assertEqual(doubles.negative(edge + SIGN), edge)
+
 
 if __name__ == "__main__":
     unittest.main()

@@ -1,14 +1,18 @@
 """Doubles (IEEE 754, binary64), told by their 64 bits, and the steps that are taken with them.
 
 Every step takes finite doubles and rounds its exact result once, to the nearest, of two to the even one.
+
+Within a step a double is a whole number below 2^53 and a scale: it is whole 2^scale times the least double. So its bits
+but for the sign are the scale, shifted in front of the fraction, plus the whole, also below the least normal double.
 """
 
 SIGN_BIT = 0x8000000000000000
 INFINITY = 0x7FF0000000000000
-IMPLIED_BIT = 0x0010000000000000
 FRACTION_BITS = 52
 PRECISION = 53
-LEAST_EXPONENT = -1074
+
+# The scale at which a whole number stands for itself: the least double is 2^-1074.
+UNIT_SCALE = 1074
 
 # Both are wide enough to leave bits below the half that decides a rounding, so that the
 # lowest of them can stand for all that was cut off.
@@ -41,65 +45,78 @@ def in_order(finite):
     return finite if finite < SIGN_BIT else SIGN_BIT - finite
 
 
-def add(left, right):
-    exponent = min(exponent_of(left), exponent_of(right))
-    total = scaled(left, exponent) + scaled(right, exponent)
-    if total == 0:
-        # IEEE 754: a sum that is exactly 0 keeps a sign only if both of its parts have it.
-        return left & right & SIGN_BIT
-    sign = SIGN_BIT if total < 0 else 0
-    return rounded(sign, abs(total), exponent)
-
-
-def subtract(left, right):
-    return add(left, negative(right))
+def double_of(whole):
+    return rounded(SIGN_BIT if whole < 0 else 0, abs(whole), UNIT_SCALE)
 
 
 def negative(finite):
     return finite ^ SIGN_BIT
 
 
+def add(left, right):
+    left_scale = scale_of(left)
+    right_scale = scale_of(right)
+    left_whole = whole_of(left, left_scale)
+    right_whole = whole_of(right, right_scale)
+    scale = left_scale
+    if left_scale > right_scale:
+        scale = right_scale
+        left_whole = left_whole << (left_scale - scale)
+    else:
+        right_whole = right_whole << (right_scale - scale)
+    total = left_whole + right_whole if sign_between(left, right) == 0 else left_whole - right_whole
+    if total == 0:
+        # IEEE 754: a sum that is exactly 0 keeps a sign only if both of its parts have it.
+        return left & right & SIGN_BIT
+    sign = left & SIGN_BIT
+    return rounded(sign, total, scale) if total > 0 else rounded(sign ^ SIGN_BIT, -total, scale)
+
+
+def subtract(left, right):
+    return add(left, right ^ SIGN_BIT)
+
+
 def multiply(left, right):
-    exponent = exponent_of(left) + exponent_of(right)
-    return rounded(sign_between(left, right), whole_of(left) * whole_of(right), exponent)
+    left_scale = scale_of(left)
+    right_scale = scale_of(right)
+    whole = whole_of(left, left_scale) * whole_of(right, right_scale)
+    return rounded(sign_between(left, right), whole, left_scale + right_scale - UNIT_SCALE)
 
 
 def divide(above, below):
-    divisor = whole_of(below)
+    above_scale = scale_of(above)
+    below_scale = scale_of(below)
+    divisor = whole_of(below, below_scale)
     if divisor == 0:
         raise NoFiniteResult()
-    widened = whole_of(above) << QUOTIENT_SHIFT
+    widened = whole_of(above, above_scale) << QUOTIENT_SHIFT
     quotient = marked(widened // divisor, widened % divisor)
-    exponent = exponent_of(above) - exponent_of(below) - QUOTIENT_SHIFT
-    return rounded(sign_between(above, below), quotient, exponent)
+    return rounded(sign_between(above, below), quotient, above_scale - below_scale + UNIT_SCALE - QUOTIENT_SHIFT)
 
 
 def root(square):
-    if whole_of(square) == 0:
+    scale = scale_of(square)
+    whole = whole_of(square, scale)
+    if whole == 0:
         # IEEE 754: the root of a zero is that zero, with its sign.
         return square
-    if square >= SIGN_BIT:
+    if square > SIGN_BIT:
         raise NoFiniteResult()
     # Only an even exponent can be halved.
-    shift = ROOT_SHIFT + exponent_of(square) % 2
-    widened = whole_of(square) << shift
-    whole = whole_root(widened)
-    return rounded(0, marked(whole, widened - whole * whole), (exponent_of(square) - shift) // 2)
+    shift = ROOT_SHIFT + (scale - UNIT_SCALE) % 2
+    widened = whole << shift
+    half = whole_root(widened)
+    return rounded(0, marked(half, widened - half * half), (scale - UNIT_SCALE - shift) // 2 + UNIT_SCALE)
 
 
-def exponent_of(finite):
-    # Doubles below the least normal one have the exponent of the least normal one.
-    return max((finite & INFINITY) >> FRACTION_BITS, 1) - 1 + LEAST_EXPONENT
+def scale_of(finite):
+    # Doubles below the least normal one have the scale of the least normal one.
+    field = (finite & INFINITY) >> FRACTION_BITS
+    return field - 1 if field > 0 else 0
 
 
-def whole_of(finite):
-    fraction = finite & (IMPLIED_BIT - 1)
-    return fraction if (finite & INFINITY) == 0 else fraction | IMPLIED_BIT
-
-
-def scaled(finite, exponent):
-    whole = whole_of(finite) << (exponent_of(finite) - exponent)
-    return -whole if finite >= SIGN_BIT else whole
+def whole_of(finite, scale):
+    return (finite & (SIGN_BIT - 1)) - (scale << FRACTION_BITS)
 
 
 def sign_between(left, right):
@@ -121,22 +138,21 @@ def whole_root(number):
     return guess
 
 
-def rounded(sign, whole, exponent):
+def rounded(sign, whole, scale):
     if whole == 0:
         return sign
-    drop = max(whole.bit_length() - PRECISION, LEAST_EXPONENT - exponent)
+    drop = whole.bit_length() - PRECISION
+    if drop < -scale:
+        drop = -scale
     kept = nearest_even(whole, drop) if drop > 0 else whole << -drop
-    # Added, not joined: a carry out of the fraction, and the implied bit, then raise the exponent by themselves.
-    magnitude = ((exponent + drop - LEAST_EXPONENT) << FRACTION_BITS) + kept
+    # Added, not joined: a carry out of the fraction, and the bit above it, then raise the exponent by themselves.
+    magnitude = ((scale + drop) << FRACTION_BITS) + kept
     if magnitude >= INFINITY:
         raise NoFiniteResult()
     return sign | magnitude
 
 
 def nearest_even(whole, drop):
-    kept = whole >> drop
-    rest = whole - (kept << drop)
-    half = 1 << (drop - 1)
-    if rest > half or (rest == half and kept % 2 == 1):
-        return kept + 1
-    return kept
+    # All but a half carries what is above a half; the odd bit lets a half carry too, so that the even one is left.
+    odd = (whole >> drop) & 1
+    return (whole + (1 << (drop - 1)) - 1 + odd) >> drop

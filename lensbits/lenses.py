@@ -1,7 +1,8 @@
 """The calls. Doubles are handed in and answered by their 64 bits."""
 
 from lensbits.doubles import (
-    NoFiniteResult, add, divide, is_above, is_above_zero, is_below_zero, is_finite, multiply, negative, root, subtract,
+    NoFiniteResult, add, divide, double_of, is_above, is_above_zero, is_below_zero, is_finite, multiply, negative, root,
+    subtract,
 )
 
 HOW_MANY = -2
@@ -11,7 +12,7 @@ MISSED = -5
 THROWN_BACK = -6
 STOPPED = -7
 
-MOST_SURFACES = 64
+MOST = 64
 NUMBERS_OF_A_SURFACE = 4
 
 ONE = 0x3FF0000000000000
@@ -62,7 +63,7 @@ def index(wave, glass):
 
 
 def near(outer, surfaces):
-    refusal = refusal_of_input(outer, surfaces, [])
+    refusal = refusal_of_input(outer, surfaces, [], [])
     if refusal != 0:
         return [refusal]
     try:
@@ -72,7 +73,7 @@ def near(outer, surfaces):
 
 
 def ray(outer, surfaces, beam):
-    refusal = refusal_of_input(outer, surfaces, beam)
+    refusal = refusal_of_input(outer, surfaces, beam, [])
     if refusal != 0:
         return [refusal]
     row = in_a_row(surfaces)
@@ -87,8 +88,19 @@ def ray(outer, surfaces, beam):
     return [0, end[0], end[1], light.way_x, light.way_y, light.way_z, end[2]]
 
 
-def refusal_of_input(outer, surfaces, others):
-    if not 1 <= len(surfaces) // NUMBERS_OF_A_SURFACE <= MOST_SURFACES:
+def spot(outer, size, m, surfaces, way):
+    refusal = refusal_of_input(outer, surfaces, [size] + way, [m])
+    if refusal != 0:
+        return [refusal]
+    row = in_a_row(surfaces)
+    try:
+        return spot_of(lights_behind(outer, size, m, row, way), row[-1].gap)
+    except NoFiniteResult:
+        return [NO_FINITE_RESULT]
+
+
+def refusal_of_input(outer, surfaces, others, counts):
+    if not all([1 <= count <= MOST for count in [len(surfaces) // NUMBERS_OF_A_SURFACE] + counts]):
         return HOW_MANY
     if not all_finite([outer] + surfaces + others):
         return IMPOSSIBLE_NUMBER
@@ -209,3 +221,42 @@ def end_of(light, gap):
     x = add(light.x, multiply(length, light.way_x))
     y = add(light.y, multiply(length, light.way_y))
     return (x, y, add(light.path, multiply(light.around, length)))
+
+
+def lights_behind(outer, size, m, row, way):
+    starts = [multiply(size, divide(double_of(2 * number + 1 - m), double_of(m))) for number in range(m)]
+    lights = []
+    for y in starts:
+        for x in starts:
+            light = Light(outer, [x, y, 0] + way)
+            if failure_on_the_way(light, row) == []:
+                lights.append(light)
+    return lights
+
+
+def spot_of(lights, gap):
+    ends = ends_of(lights, gap)
+    if ends == []:
+        return [0]
+    count = double_of(len(ends))
+    x = divide(total_of([end[0] for end in ends]), count)
+    y = divide(total_of([end[1] for end in ends]), count)
+    squares = [square_sum(subtract(end[0], x), subtract(end[1], y)) for end in ends]
+    return [len(ends), x, y, root(divide(total_of(squares), count))]
+
+
+def ends_of(lights, gap):
+    ends = []
+    for light in lights:
+        try:
+            ends.append(end_of(light, gap))
+        except NoFiniteResult:
+            continue
+    return ends
+
+
+def total_of(numbers):
+    total = 0
+    for number in numbers:
+        total = add(total, number)
+    return total

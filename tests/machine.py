@@ -147,3 +147,41 @@ def ray_doubles(n, surfaces, beam):
         return [x + s * L, y + s * M, L, M, N, path + n * s]
     except NotFinite:
         raise Failed(-4, place) from None
+
+
+def spot(outer, size, m, surfaces, way):
+    if refused(outer, surfaces, [size, *way], [m]):
+        return refused(outer, surfaces, [size, *way], [m])
+    try:
+        return spot_numbers(double_of(outer), double_of(size), m, rows(surfaces), doubles(way))
+    except NotFinite:
+        return [-4]
+
+
+def ends(outer, size, m, surfaces, way):
+    reached = []
+    for j in range(m):
+        for i in range(m):
+            x = Double(size) * (Double(2 * i + 1 - m) / Double(m))
+            y = Double(size) * (Double(2 * j + 1 - m) / Double(m))
+            try:
+                reached.append(ray_doubles(Double(outer), surfaces, [x, y, ZERO, *way])[:2])
+            except Failed:
+                pass
+    return reached
+
+
+def spot_numbers(outer, size, m, surfaces, way):
+    reached = ends(outer, size, m, surfaces, way)
+    if not reached:
+        return [0]
+    n = Double(len(reached))
+    X = Y = S = ZERO
+    for x, y in reached:
+        X = X + x
+        Y = Y + y
+    X = X / n
+    Y = Y / n
+    for x, y in reached:
+        S = S + ((x - X) * (x - X) + (y - Y) * (y - Y))
+    return [len(reached), *told([X, Y, (S / n).root()])]

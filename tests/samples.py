@@ -18,6 +18,9 @@ FLAT_AND_CURVED = [
     [-0.011, 40.0, 1.0, 10.0],
 ]
 
+# A surface that lets all light through that is not far out, and changes nothing but its path.
+PANE = [0.0, 1.0, 1.0, 100.0]
+
 
 def words_of(surfaces):
     return [bits_of(number) for surface in surfaces for number in surface]
@@ -52,3 +55,7 @@ def with_number(surfaces, place, number):
     changed = list(surfaces)
     changed[place] = number
     return changed
+
+
+def words(numbers):
+    return [bits_of(number) for number in numbers]

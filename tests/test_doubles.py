@@ -190,6 +190,20 @@ class BeyondTheGreatest(unittest.TestCase):
             self.check_none(doubles.divide, above, SIGN)
 
 
+class OfWholeNumbers(unittest.TestCase):
+    def test_small_ones(self):
+        for number in range(-70, 4100):
+            self.assertEqual(doubles.double_of(number), bits_of(float(number)))
+
+    def test_0_has_no_sign(self):
+        self.assertEqual(doubles.double_of(0), 0)
+
+    def test_large_ones_are_rounded(self):
+        for number in (2 ** 53 - 1, 2 ** 53, 2 ** 53 + 1, 2 ** 53 + 3, 2 ** 60 + 2 ** 7, 2 ** 60 + 3 * 2 ** 7):
+            self.assertEqual(doubles.double_of(number), bits_of(float(number)))
+            self.assertEqual(doubles.double_of(-number), bits_of(float(-number)))
+
+
 class Asked(unittest.TestCase):
     def test_is_finite(self):
         for edge in EDGES:

@@ -9,17 +9,12 @@ from tests.bits import (
     bits_of, double_of, is_finite, mixed_words, negative, power,
 )
 from tests.calls import EachCallByItself
-from tests.samples import DOUBLET, FLAT_AND_CURVED, drawn_surfaces, long_row, shares, with_number, words_of
+from tests.samples import (
+    DOUBLET, FLAT_AND_CURVED, PANE, drawn_surfaces, long_row, shares, with_number, words, words_of,
+)
 
 SLANTED = [1.5, -2.25, -3.0, 0.02, 0.03, 0.99935]
 STRAIGHT = [1.0, 2.0, -3.0, 0.0, 0.0, 1.0]
-
-# A surface that lets all light through that is not far out, and changes nothing but its path.
-PANE = [0.0, 1.0, 1.0, 100.0]
-
-
-def words(numbers):
-    return [bits_of(number) for number in numbers]
 
 
 def ask(outer, surfaces, beam):

@@ -11,12 +11,14 @@ NO_FINITE_RESULT = -4
 MISSED = -5
 THROWN_BACK = -6
 STOPPED = -7
+NO_RAY_LEFT = -5
 
 MOST = 64
 NUMBERS_OF_A_SURFACE = 4
 
 ONE = 0x3FF0000000000000
 TWO = 0x4000000000000000
+THREE = 0x4008000000000000
 
 
 class Missed(ArithmeticError):
@@ -31,6 +33,10 @@ class Stopped(ArithmeticError):
     pass
 
 
+class NoRayLeft(ArithmeticError):
+    pass
+
+
 class Surface:
     def __init__(self, numbers):
         self.curve = numbers[0]
@@ -39,9 +45,8 @@ class Surface:
         self.half = numbers[3]
 
 
+# A ray on its way. Its place counts from the middle of the surface that it met last (of the first at the beginning).
 class Light:
-    """A ray on its way: its place from the last surface's middle, its way (L, M, N), its path, and the index around."""
-
     def __init__(self, around, beam):
         self.x = beam[0]
         self.y = beam[1]
@@ -97,6 +102,19 @@ def spot(outer, size, m, surfaces, way):
         return spot_of(lights_behind(outer, size, m, row, way), row[-1].gap)
     except NoFiniteResult:
         return [NO_FINITE_RESULT]
+
+
+def focus(outer, size, m, steps, surfaces, way):
+    refusal = refusal_of_input(outer, surfaces, [size] + way, [m, steps])
+    if refusal != 0:
+        return [refusal]
+    row = in_a_row(surfaces)
+    try:
+        return [0, sharpest_gap(lights_behind(outer, size, m, row, way), steps, row[-1].gap)]
+    except NoFiniteResult:
+        return [NO_FINITE_RESULT]
+    except NoRayLeft:
+        return [NO_RAY_LEFT]
 
 
 def refusal_of_input(outer, surfaces, others, counts):
@@ -165,6 +183,7 @@ def failure_on_the_way(light, row):
     return []
 
 
+# The document's F, G, D, r and s: offset, slant, square, cosine and length.
 def go_through(light, surface):
     offset = offset_from(light, surface.curve)
     slant = slant_to(light, surface.curve)
@@ -202,6 +221,7 @@ def move(light, length):
     light.z = add(light.z, multiply(length, light.way_z))
 
 
+# The document's u, R, g and h: ratio, left, turn and curved.
 def bend(light, surface, square, cosine):
     ratio = divide(light.around, surface.behind)
     left = subtract(ONE, multiply(multiply(ratio, ratio), subtract(ONE, square)))
@@ -215,7 +235,7 @@ def bend(light, surface, square, cosine):
 
 
 def end_of(light, gap):
-    # The light itself is left as it is, so that its end can be asked for with another gap.
+    # The light itself is left as it is, so that its end can be told for another gap too.
     z = subtract(light.z, gap)
     length = divide(negative(z), light.way_z)
     x = add(light.x, multiply(length, light.way_x))
@@ -260,3 +280,26 @@ def total_of(numbers):
     for number in numbers:
         total = add(total, number)
     return total
+
+
+# The last gap comes into a ray only at its end, so the lights behind the last surface serve for every gap.
+def sharpest_gap(lights, steps, gap):
+    low = 0
+    high = multiply(TWO, gap)
+    for step in range(steps):
+        third = divide(subtract(high, low), THREE)
+        lower = add(low, third)
+        higher = subtract(high, third)
+        lower_spread = spread_at(lights, lower)
+        if is_above(lower_spread, spread_at(lights, higher)):
+            low = lower
+        else:
+            high = higher
+    return divide(add(low, high), TWO)
+
+
+def spread_at(lights, gap):
+    told = spot_of(lights, gap)
+    if told == [0]:
+        raise NoRayLeft()
+    return told[3]

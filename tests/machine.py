@@ -185,3 +185,42 @@ def spot_numbers(outer, size, m, surfaces, way):
     for x, y in reached:
         S = S + ((x - X) * (x - X) + (y - Y) * (y - Y))
     return [len(reached), *told([X, Y, (S / n).root()])]
+
+
+def focus(outer, size, m, steps, surfaces, way):
+    if refused(outer, surfaces, [size, *way], [m, steps]):
+        return refused(outer, surfaces, [size, *way], [m, steps])
+    try:
+        return [0, focus_double(double_of(outer), double_of(size), m, steps, rows(surfaces), doubles(way)).bits()]
+    except NotFinite:
+        return [-4]
+    except NoneLeft:
+        return [-5]
+
+
+class NoneLeft(Exception):
+    pass
+
+
+def focus_double(outer, size, m, steps, surfaces, way):
+    """Every gap is tried with all of spot, from the first surface on."""
+
+    def third_number(gap):
+        c, _, index, half = surfaces[-1]
+        numbers = spot_numbers(outer, size, m, surfaces[:-1] + [[c, gap, index, half]], way)
+        if numbers == [0]:
+            raise NoneLeft()
+        return Double(double_of(numbers[3]))
+
+    a = ZERO
+    b = TWO * surfaces[-1][1]
+    for _ in range(steps):
+        c = a + (b - a) / THREE
+        d = b - (b - a) / THREE
+        with_c = third_number(c)
+        with_d = third_number(d)
+        if not with_d < with_c:
+            b = d
+        else:
+            a = c
+    return (a + b) / TWO

@@ -14,6 +14,12 @@ PYTHONS_OWN = set("""
     ArithmeticError OverflowError RuntimeError NotImplementedError AttributeError StopIteration
 """.split())
 
+METHODS = set("""
+    append clear copy count endswith extend find get index insert isalnum isalpha isdigit islower isspace isupper items
+    join keys ljust lower lstrip partition pop remove replace reverse rfind rjust rpartition rsplit rstrip setdefault
+    split splitlines startswith strip update upper values zfill bit_length
+""".split())
+
 BARRED_WORDS = re.compile(r"""\b(
     type|typing|typing_extensions|enum|Enum|IntEnum|StrEnum|Flag|IntFlag|Generic|Protocol|ABC|ABCMeta|namedtuple|
     NamedTuple|TypedDict|TYPE_CHECKING|abstractmethod)\b|dataclass|overload|contextmanager""", re.VERBOSE)
@@ -94,6 +100,40 @@ class Form(unittest.TestCase):
             self.assertEqual([name for name in bound if name.startswith("_") and name != "__init__"], [], path)
             used = {node.id for node in ast.walk(tree) if isinstance(node, ast.Name)}
             self.assertEqual(used - bound - PYTHONS_OWN, set(), path)
+
+    def test_classes(self):
+        for path, node in nodes():
+            if isinstance(node, ast.ClassDef):
+                self.assertLessEqual(len(node.bases), 1, (path, node.name))
+                self.assertEqual(node.decorator_list, [], (path, node.name))
+                for part in node.body:
+                    self.assertIsInstance(part, (ast.FunctionDef, ast.Pass), (path, node.name))
+
+    def test_what_stands_by_itself_is_a_call(self):
+        for path, tree in trees():
+            for node in ast.walk(tree):
+                if isinstance(node, ast.Expr) and node is not tree.body[0]:
+                    self.assertIsInstance(node.value, ast.Call, (path, node.lineno))
+
+    def test_methods(self):
+        for path, node in nodes():
+            if isinstance(node, ast.Call) and isinstance(node.func, ast.Attribute):
+                self.assertIn(node.func.attr, METHODS, (path, node.lineno))
+
+    def test_functions(self):
+        for path, node in nodes():
+            self.assertNotIsInstance(node, (ast.Starred, ast.GeneratorExp, ast.SetComp, ast.DictComp), path)
+            if isinstance(node, ast.FunctionDef):
+                self.assertEqual(node.decorator_list, [], (path, node.name))
+                self.assertIsNone(node.args.vararg or node.args.kwarg, (path, node.name))
+                self.assertEqual(node.args.kwonlyargs, [], (path, node.name))
+
+    def test_one_target_and_no_power_of_a_name(self):
+        for path, node in nodes():
+            if isinstance(node, ast.Assign):
+                self.assertEqual(len(node.targets), 1, (path, node.lineno))
+            if isinstance(node, ast.BinOp) and isinstance(node.op, ast.Pow):
+                self.assertIsInstance(node.right, ast.Constant, (path, node.lineno))
 
 
 if __name__ == "__main__":
